@@ -909,17 +909,23 @@ func TestCoresKeepNothing(t *testing.T) {
 	}
 }
 
+// farCore is a core, and an entry, that have the numbers of these two places, from far out, everywhere.
+func farCore(i, j int) (impl.Core, impl.Entry) {
+	n, m := edgeNumbers[i], edgeNumbers[j]
+	w := impl.Word{N: n, Is: (i+j)%3 > 0, Key: impl.Key{Base: m, Top: n, Perms: m, Seal: n}}
+	x := impl.Ins{Op: []int{n, 1 + (i+j)%15}[i%2], R: m, A: n, B: m, N: n}
+	e := impl.Entry{Pc: w, X: x, Done: (i+j)%2 == 0, E: impl.Effect{Trap: n, R: m, Val: w, Next: w, At: n, Put: w, Drop: m}, Guess: w}
+	s := impl.State{Regs: slices.Repeat([]impl.Word{w}, (i+j)%10), Pc: w, Mem: impl.Memory{Words: slices.Repeat([]impl.Word{w}, (i+j)%30), Gone: make([]bool, j)}, Trap: m}
+	return impl.Core{S: s, Rob: slices.Repeat([]impl.Entry{e}, (i*j)%9), Next: w, Stop: i%2 == 0, Guesses: slices.Repeat([]int{m, n}, (i*j)%40)}, e
+}
+
 // Promise 29: whatever they are given, they answer.
 func TestCoresAnswerAtAnyArguments(t *testing.T) {
 	right := mixedCore()
 	for i, n := range edgeNumbers {
 		for j, m := range edgeNumbers {
-			w := impl.Word{N: n, Is: (i+j)%3 > 0, Key: impl.Key{Base: m, Top: n, Perms: m, Seal: n}}
-			x := impl.Ins{Op: []int{n, 1 + (i+j)%15}[i%2], R: m, A: n, B: m, N: n}
-			e := impl.Entry{Pc: w, X: x, Done: (i+j)%2 == 0, E: impl.Effect{Trap: n, R: m, Val: w, Next: w, At: n, Put: w, Drop: m}, Guess: w}
-			s := impl.State{Regs: slices.Repeat([]impl.Word{w}, (i+j)%10), Pc: w, Mem: impl.Memory{Words: slices.Repeat([]impl.Word{w}, (i+j)%30), Gone: make([]bool, j)}, Trap: m}
-			c := impl.Core{S: s, Rob: slices.Repeat([]impl.Entry{e}, (i*j)%9), Next: w, Stop: i%2 == 0, Guesses: slices.Repeat([]int{m, n}, (i*j)%40)}
-			if impl.CoreOk(c) || !isZeroCore(impl.CoreNew(s)) {
+			c, e := farCore(i, j)
+			if impl.CoreOk(c) || !isZeroCore(impl.CoreNew(c.S)) {
 				t.Fatal(c)
 			}
 			valueAs(t, c, n, m, impl.Word{}, false)
